@@ -1,0 +1,1 @@
+"""Mould-to-machine assignment for an injection-moulding shop."""

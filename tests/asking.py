@@ -4,6 +4,10 @@ from mouldpress.shop import answers
 
 CREATE = (0,)
 MAX_RUNNING = (8,)
+BEST_ASSIGNMENT = (9,)
+MINIMUM_COVER = (10,)
+MAX_DEFICIENCY = (11,)
+LIST_RATINGS = (16,)
 LOWEST = -2147483648
 HIGHEST = 2147483647
 
@@ -34,6 +38,22 @@ def set_mould(i, clamp_force, platen_size):
 
 def fits(i, j):
     return (7, i, j)
+
+
+def check_assignment(entries):
+    return (12, len(entries), *entries)
+
+
+def check_cover(moulds, machines):
+    return (13, len(moulds), *moulds, len(machines), *machines)
+
+
+def neighbours(moulds):
+    return (14, len(moulds), *moulds)
+
+
+def max_running_without(j):
+    return (15, j)
 
 
 def flat(calls):
@@ -91,3 +111,8 @@ def revealed(machines, moulds):
     found.extend([0, *rating] for rating in moulds)
     found.append([-2])
     return found
+
+
+def listed(machines, moulds):
+    """What list_ratings answers on a shop with these ratings."""
+    return [len(machines), *flat(machines), len(moulds), *flat(moulds)]

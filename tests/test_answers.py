@@ -4,23 +4,33 @@ import contextlib
 import io
 import unittest
 
-from asking import (CREATE, HIGHEST, LOWEST, MAX_RUNNING, add_machine, add_mould, ask, fits, flat, remove_machine,
-                    remove_mould, reveal, revealed, set_machine, set_mould, shop)
+from asking import (BEST_ASSIGNMENT, CREATE, HIGHEST, LIST_RATINGS, LOWEST, MAX_DEFICIENCY, MAX_RUNNING, MINIMUM_COVER,
+                    add_machine, add_mould, ask, check_assignment, check_cover, fits, flat, max_running_without,
+                    neighbours, remove_machine, remove_mould, reveal, revealed, set_machine, set_mould, shop)
 
-from mouldpress.queries import CallNotBuilt
 from mouldpress.reading import read_calls
 from mouldpress.shop import answers
 
 EXAMPLE = [CREATE, add_machine(300, 450), add_machine(120, 300), add_mould(100, 280), add_mould(250, 400),
-           add_mould(110, 300), fits(1, 1), add_mould(0, 280)]
-EXAMPLE_ANSWERS = [1, 0, 1, 0, 1, 1, 1, 0, 1, 1, 1, 2, 1, 0, 1, -22]
+           add_mould(110, 300), fits(1, 1), BEST_ASSIGNMENT, MINIMUM_COVER, MAX_DEFICIENCY,
+           check_assignment([0, 1, -1]), add_mould(0, 280)]
+EXAMPLE_ANSWERS = [1, 0, 1, 0, 1, 1, 1, 0, 1, 1, 1, 2, 1, 0, 4, 2, 0, -1, 1, 4, 2, 0, 0, 1, 4, 1, 0, 1, 2, 2, 0, 2,
+                   1, -22]
 
 # One of each call but create, all of them in order.
 FULL_ROW = list(range(70))
-LATER_CALLS = [(9,), (10,), (11,), (12, 70, *FULL_ROW), (13, 70, *FULL_ROW, 70, *FULL_ROW), (14, 70, *FULL_ROW),
-               (15, 0), (16,)]
 EACH_CALL = [add_machine(1, 1), add_mould(1, 1), remove_machine(0), remove_mould(0), set_machine(0, 1, 1),
-             set_mould(0, 1, 1), fits(0, 0), MAX_RUNNING, *LATER_CALLS]
+             set_mould(0, 1, 1), fits(0, 0), MAX_RUNNING, BEST_ASSIGNMENT, MINIMUM_COVER, MAX_DEFICIENCY,
+             check_assignment(FULL_ROW), check_cover(FULL_ROW, FULL_ROW), neighbours(FULL_ROW),
+             max_running_without(0), LIST_RATINGS]
+
+# Rows of several lengths, none too, with other calls behind them.
+ROWS = [CREATE, add_machine(5, 5), add_mould(5, 5), check_assignment([0]), check_cover([], [0]), check_cover([0], []),
+        check_cover([], []), neighbours([0]), neighbours([]), check_assignment([]), check_assignment([0, 0]),
+        check_cover([0, 0], [0]), check_cover([0], [0, 0]), MINIMUM_COVER, MAX_DEFICIENCY, max_running_without(0),
+        LIST_RATINGS]
+ROWS_ANSWERS = [1, 0, 1, 0, 1, 0, 2, 1, 1, 2, 1, 1, 2, 1, 1, 2, 0, 0, 2, 1, 0, 1, 0, 1, -22, 1, -22, 1, -22, 1, -22,
+                3, 1, 0, 0, 1, 0, 1, 0, 6, 1, 5, 5, 1, 5, 5]
 
 MIXED = [CREATE, add_machine(300, 450), add_mould(100, 280), set_machine(0, 5, 6), set_mould(0, 1, 2), fits(0, 0),
          MAX_RUNNING, remove_machine(0), remove_mould(0), remove_mould(0), add_machine(0, 0)]
@@ -44,6 +54,12 @@ class FormTest(unittest.TestCase):
     def test_every_call_behind_another(self):
         self.assertEqual(answers(flat(MIXED)), MIXED_ANSWERS)
 
+    def test_rows_of_several_lengths(self):
+        self.assertEqual(answers(flat(ROWS)), ROWS_ANSWERS)
+
+    def test_answers_hold_their_lengths(self):
+        self.assertEqual(answers([0, 9, 10, 11, 16]), [1, 0, 1, 0, 2, 0, 0, 1, 0, 2, 0, 0])
+
     def test_single_call(self):
         self.assertEqual(answers([0]), [1, 0])
 
@@ -51,27 +67,60 @@ class FormTest(unittest.TestCase):
         self.assertEqual(answers([0] + [8] * 59), [1, 0] * 60)
 
     def test_gives_back_a_list_of_whole_numbers(self):
-        given = answers(flat(MIXED))
-        self.assertIs(type(given), list)
-        self.assertEqual({type(number) for number in given}, {int})
+        for calls in (MIXED, EXAMPLE, ROWS):
+            given = answers(flat(calls))
+            self.assertIs(type(given), list)
+            self.assertEqual({type(number) for number in given}, {int})
 
     def test_prints_nothing(self):
         printed = io.StringIO()
         with contextlib.redirect_stdout(printed), contextlib.redirect_stderr(printed):
-            answers(flat(MIXED))
+            answers(flat(MIXED + EXAMPLE + ROWS))
         self.assertEqual(printed.getvalue(), "")
+
+
+class LongestTest(unittest.TestCase):
+    def ask_locked(self, calls):
+        """The answers, with a look at the list that is handed in."""
+        self.assertEqual(len(calls), 60)
+        handed_in = LockedList(flat(calls))
+        before = tuple(handed_in)
+        given = answers(handed_in)
+        self.assertEqual(tuple(handed_in), before)
+        return given
+
+    def test_sixty_queries(self):
+        built = shop([(5, 5)] * 5, [(5, 5)] * 5)
+        queries = [BEST_ASSIGNMENT, MINIMUM_COVER, MAX_DEFICIENCY, check_assignment([4, 3, 2, 1, 0]),
+                   check_cover([0, 1, 2, 3], [0]), neighbours([4, 0]), max_running_without(4)]
+        wanted = [6, 5, 0, 1, 2, 3, 4, 7, 5, 0, 0, 1, 2, 3, 4, 1, 0, 2, 1, 5, 2, 0, 5, 6, 5, 0, 1, 2, 3, 4, 1, 4]
+        given = self.ask_locked(built + queries * 7)
+        self.assertEqual(given, [1, 0] + [1, 0, 1, 1, 1, 2, 1, 3, 1, 4] * 2 + wanted * 7)
+
+    def test_two_full_rows_in_each_call(self):
+        calls = [check_cover(FULL_ROW, FULL_ROW)] * 60
+        self.assertEqual(len(flat(calls)), 8580)
+        self.assertEqual(self.ask_locked(calls), [1, -11] * 60)
+
+    def test_two_full_rows_in_each_call_behind_create(self):
+        for row in (FULL_ROW, [0] * 70, [LOWEST] * 70, [HIGHEST] * 70, [-1] * 70):
+            calls = [CREATE] + [check_cover(row, row)] * 59
+            self.assertEqual(self.ask_locked(calls), [1, 0] + [1, -22] * 59)
+            built = shop([(5, 5)] * 5, [(5, 5)] * 5)
+            calls = built + [check_cover(row, row), check_assignment(row), neighbours(row)] * 16 + [LIST_RATINGS]
+            self.assertEqual(self.ask_locked(calls)[22:], [1, -22] * 48 + [22] + [5, *[5, 5] * 5] * 2)
 
 
 class HandedInTest(unittest.TestCase):
     def test_is_the_same_afterwards(self):
-        for calls in (EXAMPLE, MIXED, EACH_CALL):
+        for calls in (EXAMPLE, MIXED, ROWS, EACH_CALL, [CREATE, *EACH_CALL]):
             handed_in = flat(calls)
             before = list(handed_in)
             answers(handed_in)
             self.assertEqual(handed_in, before)
 
     def test_is_not_changed_for_a_while(self):
-        for calls in (EXAMPLE, MIXED, EACH_CALL):
+        for calls in (EXAMPLE, MIXED, ROWS, EACH_CALL, [CREATE, *EACH_CALL]):
             answers(LockedList(flat(calls)))
 
 
@@ -80,6 +129,7 @@ class NothingKeptTest(unittest.TestCase):
         for turn in range(3):
             self.assertEqual(answers(flat(EXAMPLE)), EXAMPLE_ANSWERS)
             self.assertEqual(answers(flat(MIXED)), MIXED_ANSWERS)
+            self.assertEqual(answers(flat(ROWS)), ROWS_ANSWERS)
 
     def test_no_instance_is_left_over(self):
         ask(*shop([(5, 5)], [(5, 5)]))
@@ -102,7 +152,8 @@ class NoInstanceTest(unittest.TestCase):
 
     def test_comes_before_every_other_error(self):
         wrong = [add_machine(0, 1000), add_mould(LOWEST, HIGHEST), remove_machine(-1), remove_mould(HIGHEST),
-                 set_machine(-1, 0, 0), set_mould(LOWEST, 0, 0), fits(-1, HIGHEST)]
+                 set_machine(-1, 0, 0), set_mould(LOWEST, 0, 0), fits(-1, HIGHEST), check_assignment([-2]),
+                 check_cover([-1], [0, 0]), neighbours([HIGHEST, HIGHEST]), max_running_without(-1)]
         self.assertEqual(ask(*wrong), [[-11]] * len(wrong))
 
     def test_all_in_one_request(self):
@@ -147,16 +198,6 @@ class ReadingTest(unittest.TestCase):
         got = self.read((13, 0, 2, 8, 9), (13, 1, 7, 0), (12, 0), (14, 0), (14, 2, LOWEST, HIGHEST))
         self.assertEqual(got, [(13, [], [[], [8, 9]]), (13, [], [[7], []]), (12, [], [[]]), (14, [], [[]]),
                                (14, [], [[LOWEST, HIGHEST]])])
-
-    def test_the_longest_list(self):
-        longest = [(13, 70, *FULL_ROW, 70, *FULL_ROW)] * 60
-        self.assertEqual(len(flat(longest)), 8580)
-        self.assertEqual(answers(flat(longest)), [1, -11] * 60)
-
-    def test_a_call_that_is_not_built_is_not_answered(self):
-        for call in LATER_CALLS:
-            with self.subTest(call=call[0]), self.assertRaises(CallNotBuilt):
-                answers(flat([CREATE, call]))
 
 
 if __name__ == "__main__":

@@ -70,6 +70,33 @@ class LanguageTest(unittest.TestCase):
                     self.assertTrue(node.module.startswith("mouldpress."), (name, node.module))
                     self.assertIn(node, tree.body, name)
 
+    def test_no_parameter_or_local_is_called_like_an_import_or_a_class(self):
+        for name, tree in trees():
+            taken = {alias.name for node in tree.body if isinstance(node, ast.ImportFrom) for alias in node.names}
+            taken |= {node.name for node in tree.body if isinstance(node, ast.ClassDef)}
+            for node in ast.walk(tree):
+                if isinstance(node, ast.arg):
+                    self.assertNotIn(node.arg, taken, (name, node.lineno))
+                if isinstance(node, ast.Name) and isinstance(node.ctx, ast.Store):
+                    self.assertNotIn(node.id, taken, (name, node.lineno))
+
+    def test_sets_are_only_counted_or_sorted(self):
+        for name, tree in trees():
+            counted = [node.args[0] for node in ast.walk(tree) if isinstance(node, ast.Call)
+                       and isinstance(node.func, ast.Name) and node.func.id in ("len", "sorted")]
+            for node in ast.walk(tree):
+                if isinstance(node, ast.Call) and isinstance(node.func, ast.Name) and node.func.id == "set":
+                    self.assertIn(node, counted, (name, node.lineno))
+
+    def test_no_file_draws_from_one_that_draws_from_it(self):
+        drawn = {f"mouldpress.{name[:-3]}": [node.module for node in ast.walk(tree) if isinstance(node, ast.ImportFrom)]
+                 for name, tree in trees()}
+        done = []
+        while len(done) < len(drawn):
+            ready = [file for file in drawn if file not in done and all(other in done for other in drawn[file])]
+            self.assertNotEqual(ready, [], "these draw from one another, or from no file")
+            done.extend(ready)
+
     def test_names_are_the_programs_own_or_allowed(self):
         for name, tree in trees():
             for node in ast.walk(tree):
